@@ -4,6 +4,7 @@ All that may be refused is checked ahead of the change, so that a refusal change
 """
 
 from nearstores.checks import check_people, check_place, check_present, check_road
+from nearstores.network import with_road
 
 
 def set_people(instance, values):
@@ -24,8 +25,7 @@ def set_road(instance, values):
     time = values[2]
     check_road(instance, start, end, time)
     old = instance.times[start][end]
-    instance.times[start][end] = time
-    instance.times[end][start] = time
+    instance.times = with_road(instance.times, start, end, time)
     return [old]
 
 

@@ -1,5 +1,6 @@
 """The checks that several calls share. Each raises the refusal if its condition isn't met."""
 
+from nearstores.network import is_connected
 from nearstores.refusals import NoRoute, NoSuchPlace, OutOfRange
 
 MOST_PLACES = 7
@@ -37,6 +38,18 @@ def check_present(present):
     """Refuse what is neither 0 nor 1."""
     if present > 1:
         raise OutOfRange()
+
+
+def check_size(instance, size, fewest):
+    """Refuse a number of stores that is below the fewest or above that of the places."""
+    if size < fewest or size > instance.place_count:
+        raise OutOfRange()
+
+
+def check_connected(distances):
+    """Refuse a network that is not connected."""
+    if not is_connected(distances):
+        raise NoRoute()
 
 
 def defined(result):

@@ -3,14 +3,20 @@
 from nearstores.changes import answer_change
 from nearstores.checks import check_place_count
 from nearstores.instance import Instance
+from nearstores.proposals import answer_proposal
 from nearstores.questions import answer_question
 from nearstores.refusals import NoInstance, Refusal
+from nearstores.trials import answer_trial
 
 # How many arguments each call has, by its number.
-ARGUMENT_COUNTS = (1, 2, 3, 2, 2, 0, 0, 1, 1, 0, 0, 0, 1, 0)
+ARGUMENT_COUNTS = (1, 2, 3, 2, 2, 0, 0, 1, 1, 0, 0, 0, 1, 0, 1, 1, 1, 1, 1, 1, 1, 1, 1, 0, 3, 1, 0)
 
 CREATE = 0
 LAST_CHANGE = 3
+FIRST_PROPOSAL = 14
+LAST_PROPOSAL = 21
+FIRST_TRIAL = 22
+LAST_TRIAL = 24
 
 
 class Desk:
@@ -33,6 +39,10 @@ class Desk:
             raise NoInstance()
         if number <= LAST_CHANGE:
             return answer_change(self.instance, number, values)
+        if number >= FIRST_PROPOSAL and number <= LAST_PROPOSAL:
+            return answer_proposal(self.instance, number, values)
+        if number >= FIRST_TRIAL and number <= LAST_TRIAL:
+            return answer_trial(self.instance, number, values)
         return answer_question(self.instance, number, values)
 
     def answer_call(self, number, values):

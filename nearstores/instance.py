@@ -1,6 +1,7 @@
 """What is known of the places: the state that calls change and ask about."""
 
 from nearstores.network import shortest_distances
+from nearstores.placesets import has_member, members
 
 
 class Instance:
@@ -10,16 +11,15 @@ class Instance:
         self.place_count = place_count
         self.people = [1] * place_count
         self.times = [[0] * place_count for place in range(place_count)]
-        # A set of places is a number whose bit p tells whether place p is a member.
         self.store_set = 0
 
     def has_store(self, place):
         """Tell whether there is a store at the place: 1 or 0."""
-        return (self.store_set >> place) & 1
+        return has_member(self.store_set, place)
 
     def stores(self):
         """List the places with a store in increasing order."""
-        return [place for place in range(self.place_count) if self.has_store(place) == 1]
+        return members(self.store_set, self.place_count)
 
     def distances(self):
         """Give a row for each place with its distances to all places; None is undefined."""

@@ -17,6 +17,24 @@ def joined(one, other):
     return one + other
 
 
+def with_road(times, start, end, time):
+    """Give the travel times as they are with this road; those handed in stay as they are."""
+    changed = [list(row) for row in times]
+    changed[start][end] = time
+    changed[end][start] = time
+    return changed
+
+
+def road_count(times):
+    """Give the number of roads."""
+    roads = 0
+    for start in range(len(times)):
+        for end in range(start):
+            if times[start][end] > 0:
+                roads += 1
+    return roads
+
+
 def direct_distance(times, start, end):
     """Give the distance of two places by at most one road."""
     if start == end:

@@ -53,6 +53,11 @@ def greatest_distance_without(distances, people, stores, lost):
     return greatest_distance(distances, people, kept)
 
 
+def greatest_distance_with(distances, people, stores, added):
+    """Give the greatest distance of the stores and the added one."""
+    return greatest_distance(distances, people, sorted(stores + [added]))
+
+
 def greatest_distance_after_loss(distances, people, stores):
     """Give the greatest distance if that one of the stores is lost whose loss is worst."""
     greatest = 0

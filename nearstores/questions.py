@@ -1,7 +1,7 @@
-"""The calls 4 to 13, which ask about an instance as it is and change nothing."""
+"""The calls 4 to 13, 25 and 26, which ask about an instance as it is and change nothing."""
 
 from nearstores.checks import check_place, defined
-from nearstores.network import is_connected
+from nearstores.network import is_connected, road_count
 from nearstores.objectives import (
     greatest_distance,
     greatest_distance_after_loss,
@@ -12,6 +12,7 @@ from nearstores.objectives import (
     total_distance,
 )
 from nearstores.refusals import NoStore
+from nearstores.searches import places_within
 
 
 def answer_distance(instance, values):
@@ -83,6 +84,17 @@ def answer_greatest_distance_after_loss(instance, values):
     return [defined(greatest_distance_after_loss(instance.distances(), instance.people, stores))]
 
 
+def answer_places_within(instance, values):
+    """Answer places_within(radius)."""
+    places = places_within(instance.distances(), instance.stores(), values[0])
+    return [len(places)] + places
+
+
+def answer_summary(instance, values):
+    """Answer summary()."""
+    return [instance.place_count, sum(instance.people), road_count(instance.times), instance.store_set]
+
+
 QUESTIONS = {
     4: answer_distance,
     5: answer_distance_matrix,
@@ -94,6 +106,8 @@ QUESTIONS = {
     11: answer_people_per_store,
     12: answer_greatest_distance_without,
     13: answer_greatest_distance_after_loss,
+    25: answer_places_within,
+    26: answer_summary,
 }
 
 

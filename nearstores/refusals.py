@@ -36,6 +36,20 @@ class NoStore(Refusal):
         Refusal.__init__(self, -6)
 
 
+class StoreThere(Refusal):
+    """There is a store at the place already."""
+
+    def __init__(self):
+        Refusal.__init__(self, -17)
+
+
+class StoresEverywhere(Refusal):
+    """There is a store at every place."""
+
+    def __init__(self):
+        Refusal.__init__(self, -28)
+
+
 class NoRoute(Refusal):
     """There is no route, a distance is undefined, or the network is not connected."""
 

@@ -7,6 +7,10 @@ MOST = 4294967295
 MOST_CALLS = 40
 MOST_NUMBERS = 160
 
+# How many arguments each call but create has, by its number.
+ARGUMENTS = {1: 2, 2: 3, 3: 2, 4: 2, 5: 0, 6: 0, 7: 1, 8: 1, 9: 0, 10: 0, 11: 0, 12: 1, 13: 0, 14: 1, 15: 1, 16: 1,
+             17: 1, 18: 1, 19: 1, 20: 1, 21: 1, 22: 1, 23: 0, 24: 3, 25: 1, 26: 0}
+
 
 def create(place_count):
     return [0, place_count]
@@ -64,6 +68,58 @@ def greatest_distance_after_loss():
     return [13]
 
 
+def best_centers(k):
+    return [14, k]
+
+
+def best_medians(k):
+    return [15, k]
+
+
+def best_robust_centers(k):
+    return [16, k]
+
+
+def smallest_cover(radius):
+    return [17, radius]
+
+
+def farthest_first(k):
+    return [18, k]
+
+
+def use_best_centers(k):
+    return [19, k]
+
+
+def use_best_medians(k):
+    return [20, k]
+
+
+def use_best_robust_centers(k):
+    return [21, k]
+
+
+def greatest_distance_with(place):
+    return [22, place]
+
+
+def best_additional_store():
+    return [23]
+
+
+def greatest_distance_with_road(a, b, time):
+    return [24, a, b, time]
+
+
+def places_within(radius):
+    return [25, radius]
+
+
+def summary():
+    return [26]
+
+
 def flat(calls):
     """Put the calls one behind another; no test may hand in more than the document allows."""
     numbers = [number for call in calls for number in call]
@@ -110,3 +166,13 @@ def probe(place_count):
 def line_of_three():
     """The network of the document's examples: 0 -4- 1 -6- 2, with five people at place 2."""
     return [create(3), set_road(0, 1, 4), set_road(1, 2, 6), set_people(2, 5)]
+
+
+def nobody(place_count):
+    """Places without people and without roads."""
+    return [create(place_count)] + [set_people(place, 0) for place in range(place_count)]
+
+
+def path(place_count, time):
+    """Places in one line, by their numbers, with roads of this time."""
+    return [create(place_count)] + [set_road(place, place + 1, time) for place in range(place_count - 1)]

@@ -3,11 +3,8 @@
 import unittest
 
 from helper import (
-    MOST, ask, create, distance, distance_matrix, is_connected, last, line_of_three, set_people, set_road, set_store)
-
-
-def path_of_seven(time):
-    return [create(7)] + [set_road(place, place + 1, time) for place in range(6)]
+    MOST, ask, create, distance, distance_matrix, is_connected, last, line_of_three, path, set_people, set_road,
+    set_store)
 
 
 class Distance(unittest.TestCase):
@@ -18,7 +15,7 @@ class Distance(unittest.TestCase):
 
     def test_0_from_a_place_to_itself(self):
         self.assertEqual(last(create(1), distance(0, 0)), [0])
-        self.assertEqual(last(*path_of_seven(50), distance(3, 3)), [0])
+        self.assertEqual(last(*path(7, 50), distance(3, 3)), [0])
 
     def test_a_way_round_may_be_shorter_than_the_road(self):
         roads = [create(3), set_road(0, 2, 50), set_road(0, 1, 24), set_road(1, 2, 25)]
@@ -29,7 +26,7 @@ class Distance(unittest.TestCase):
         self.assertEqual(last(*roads, distance(0, 2)), [48])
 
     def test_the_longest_route(self):
-        self.assertEqual(last(*path_of_seven(50), distance(0, 6)), [300])
+        self.assertEqual(last(*path(7, 50), distance(0, 6)), [300])
 
     def test_a_route_that_visits_the_places_in_no_order(self):
         route = (0, 5, 2, 6, 1, 4, 3)
@@ -65,7 +62,7 @@ class DistanceMatrix(unittest.TestCase):
 
     def test_seven_places(self):
         expected = [7] + [3 * abs(a - b) for a in range(7) for b in range(7)]
-        self.assertEqual(last(*path_of_seven(3), distance_matrix()), expected)
+        self.assertEqual(last(*path(7, 3), distance_matrix()), expected)
 
     def test_seven_places_without_roads(self):
         expected = [7] + [0 if a == b else -1 for a in range(7) for b in range(7)]
@@ -81,9 +78,9 @@ class IsConnected(unittest.TestCase):
                              is_connected()), [[0], [0], [0], [1], [1], [0]])
 
     def test_seven_places(self):
-        self.assertEqual(last(*path_of_seven(1), is_connected()), [1])
+        self.assertEqual(last(*path(7, 1), is_connected()), [1])
         for place in range(6):
-            self.assertEqual(last(*path_of_seven(1), set_road(place, place + 1, 0), is_connected()), [0])
+            self.assertEqual(last(*path(7, 1), set_road(place, place + 1, 0), is_connected()), [0])
 
     def test_the_last_place_alone(self):
         self.assertEqual(last(create(3), set_road(0, 1, 1), is_connected()), [0])

@@ -4,12 +4,8 @@ import unittest
 
 from helper import (
     MOST, ask, create, greatest_distance, greatest_distance_after_loss, greatest_distance_without, last,
-    line_of_three, nearest_store, people_per_store, set_people, set_road, set_store, store_distance,
-    total_distance)
-
-
-def nobody(place_count):
-    return [create(place_count)] + [set_people(place, 0) for place in range(place_count)]
+    line_of_three, nearest_store, nobody, path, people_per_store, set_people, set_road, set_store,
+    store_distance, total_distance)
 
 
 class StoreDistance(unittest.TestCase):
@@ -90,7 +86,7 @@ class GreatestDistance(unittest.TestCase):
         self.assertEqual(last(*nobody(3), set_store(1, 1), greatest_distance()), [0])
 
     def test_the_longest_one(self):
-        calls = [create(7)] + [set_road(place, place + 1, 50) for place in range(6)] + [set_store(6, 1)]
+        calls = path(7, 50) + [set_store(6, 1)]
         self.assertEqual(last(*calls, greatest_distance()), [300])
 
     def test_refuses_without_stores(self):
@@ -118,7 +114,7 @@ class TotalDistance(unittest.TestCase):
         self.assertEqual(last(*nobody(3), total_distance()), [0])
 
     def test_the_greatest_one(self):
-        calls = [create(7)] + [set_road(place, place + 1, 50) for place in range(6)] + [set_store(0, 1)]
+        calls = path(7, 50) + [set_store(0, 1)]
         calls += [set_people(place, 99) for place in range(7)]
         self.assertEqual(last(*calls, total_distance()), [99 * 50 * 21])
 
